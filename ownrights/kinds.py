@@ -1,0 +1,41 @@
+"""Of what kind any value is: integers, numbers, names, sums and sets of sums."""
+
+LETTERS = "abcdefghijklmnopqrstuvwxyz"
+LONGEST_NAME = 8
+
+
+def is_integer(thing):
+    """Whether any value is an integer; a bool is none."""
+    return isinstance(thing, int) and not isinstance(thing, bool)
+
+
+def is_number(thing):
+    """Whether any value is an integer that is at least 0."""
+    return is_integer(thing) and thing >= 0
+
+
+def is_name(thing):
+    """Whether any value is a string of one to eight lowercase letters."""
+    if not isinstance(thing, str) or not 1 <= len(thing) <= LONGEST_NAME:
+        return False
+    return all([letter in LETTERS for letter in thing])
+
+
+def is_integers(thing):
+    """Whether any value is a tuple of integers, however many."""
+    return isinstance(thing, tuple) and all([is_integer(one) for one in thing])
+
+
+def is_sum(thing, many):
+    """Whether any value is a tuple of many integers."""
+    return is_integers(thing) and len(thing) == many
+
+
+def is_ascending(things):
+    """Whether each of some comparable things is greater than the one before."""
+    return all([things[at - 1] < things[at] for at in range(1, len(things))])
+
+
+def is_sums(thing, many):
+    """Whether any value is a set of sums of many integers: ascending, without duplicates, possibly empty."""
+    return isinstance(thing, tuple) and all([is_sum(one, many) for one in thing]) and is_ascending(thing)

@@ -1,0 +1,160 @@
+"""Those rules of LANGUAGE.md that can be looked at in the files of the package one by one."""
+
+import ast
+import builtins
+import re
+import unittest
+from pathlib import Path
+
+PACKAGE = Path(__file__).resolve().parent.parent / "ownrights"
+FILES = sorted(PACKAGE.glob("*.py"))
+ERRORS = {
+    "Exception", "ValueError", "TypeError", "KeyError", "IndexError", "LookupError", "ZeroDivisionError",
+    "ArithmeticError", "OverflowError", "RuntimeError", "NotImplementedError", "AttributeError", "StopIteration",
+}
+BUILTINS = ERRORS | {
+    "len", "range", "enumerate", "zip", "min", "max", "sum", "abs", "sorted", "reversed", "int", "str", "bool", "list",
+    "tuple", "dict", "set", "isinstance", "ord", "repr", "any", "all", "divmod", "NotImplemented", "property",
+    "staticmethod", "classmethod", "iter", "next", "map", "super",
+}
+METHODS = set(
+    "append clear copy count endswith extend find get index insert isalnum isalpha isdigit islower isspace isupper "
+    "items join keys ljust lower lstrip partition pop remove replace reverse rfind rjust rpartition rsplit rstrip "
+    "setdefault split splitlines startswith strip update upper values zfill bit_length add discard".split())
+STATEMENTS = (
+    ast.Assign, ast.AugAssign, ast.If, ast.While, ast.For, ast.Return, ast.Break, ast.Continue, ast.Pass, ast.Raise,
+    ast.Assert, ast.Delete, ast.Nonlocal, ast.With, ast.Expr, ast.Try, ast.FunctionDef, ast.ClassDef, ast.ImportFrom,
+    ast.Match,
+)
+UNUSED = {"register", "mro", "elements", "open", "input", "law", "version_info", "with_traceback", "add_note"}
+BARRED = re.compile(
+    r"\b(type|typing|typing_extensions|enum|Enum|IntEnum|StrEnum|Flag|IntFlag|Generic|Protocol|ABC|ABCMeta|namedtuple|"
+    r"NamedTuple|TypedDict|TYPE_CHECKING|abstractmethod)\b|dataclass|overload|contextmanager|_wall|_WallAttr|Meta")
+
+
+def tree_of(path):
+    return ast.parse(path.read_text(encoding="utf-8"))
+
+
+def functions_in(tree):
+    return [node for node in ast.walk(tree) if isinstance(node, ast.FunctionDef)]
+
+
+def defined_in(tree):
+    """The functions, classes and names at module level."""
+    names = {node.name for node in tree.body if isinstance(node, (ast.FunctionDef, ast.ClassDef))}
+    return names | {node.targets[0].id for node in tree.body if isinstance(node, ast.Assign)}
+
+
+def imported_in(tree):
+    return {alias.name: node.module for node in tree.body if isinstance(node, ast.ImportFrom) for alias in node.names}
+
+
+def bound_in(function):
+    """The parameters and the local names of a function."""
+    names = {argument.arg for argument in ast.walk(function.args) if isinstance(argument, ast.arg)}
+    return names | {node.id for node in ast.walk(function) if isinstance(node, ast.Name) and
+                    isinstance(node.ctx, ast.Store)}
+
+
+class LanguageTest(unittest.TestCase):
+    def each(self):
+        for path in FILES:
+            with self.subTest(path.name):
+                yield path, tree_of(path)
+
+    def test_there_are_only_files_with_plain_names(self):
+        names = [path.name for path in PACKAGE.iterdir() if path.name != "__pycache__"]
+        self.assertEqual(sorted(names), [path.name for path in FILES])
+        for name in names:
+            self.assertRegex(name, r"^[a-z_]+\.py$")
+            self.assertNotIn(name[:-3], dir(builtins))
+
+    def test_characters_and_sizes(self):
+        for path, tree in self.each():
+            text = path.read_text(encoding="utf-8")
+            self.assertEqual(re.findall(r"[^ -~\n]", text), [])
+            lines = text.split("\n")
+            self.assertLessEqual(len(lines), 400)
+            self.assertLessEqual(max(len(line) for line in lines), 120)
+            for function in functions_in(tree):
+                self.assertLessEqual(function.end_lineno - function.lineno + 1, 40, function.name)
+
+    def test_words(self):
+        for path, tree in self.each():
+            self.assertIsNone(BARRED.search(path.read_text(encoding="utf-8")))
+            for node in ast.walk(tree):
+                if isinstance(node, ast.Constant) and isinstance(node.value, str):
+                    self.assertNotIn("%", node.value)
+                    self.assertFalse(node.value.endswith(("._", ".__")))
+
+    def test_imports(self):
+        needed = {}
+        for path, tree in self.each():
+            self.assertEqual([node for node in ast.walk(tree) if isinstance(node, ast.Import)], [])
+            needed[path.stem] = set()
+            for name, module in imported_in(tree).items():
+                self.assertTrue(module.startswith("ownrights."), module)
+                self.assertIn(name, defined_in(tree_of(PACKAGE / f"{module.split('.')[1]}.py")))
+                needed[path.stem].add(module.split(".")[1])
+        while needed:
+            free = [name for name, others in needed.items() if not others]
+            self.assertTrue(free, f"these import from each other: {sorted(needed)}")
+            needed = {name: others - set(free) for name, others in needed.items() if others}
+
+    def test_module_level(self):
+        for _, tree in self.each():
+            for at, node in enumerate(tree.body):
+                docstring = at == 0 and isinstance(node, ast.Expr) and isinstance(node.value, ast.Constant)
+                self.assertTrue(docstring or isinstance(node, (ast.ImportFrom, ast.FunctionDef, ast.ClassDef, ast.Assign)))
+                if isinstance(node, ast.Assign):
+                    ast.literal_eval(node.value)
+
+    def test_statements_and_expressions(self):
+        barred = (ast.Lambda, ast.ListComp)
+        for _, tree in self.each():
+            for node in ast.walk(tree):
+                if isinstance(node, ast.stmt):
+                    self.assertIsInstance(node, STATEMENTS)
+                self.assertNotIsInstance(node, (ast.Div, ast.GeneratorExp, ast.Await))
+                if isinstance(node, ast.Compare):
+                    for sign, value in zip(node.ops, node.comparators):
+                        if isinstance(sign, (ast.Is, ast.IsNot)):
+                            self.assertIsInstance(value, ast.Constant)
+            for node in tree.body:
+                if isinstance(node, ast.Assign):
+                    self.assertEqual([inner for inner in ast.walk(node) if isinstance(inner, barred)], [])
+
+    def test_builtins_and_methods(self):
+        own = {function.name for path in FILES for function in functions_in(tree_of(path))}
+        for _, tree in self.each():
+            for node in ast.walk(tree):
+                if isinstance(node, ast.Name) and node.id in dir(builtins):
+                    self.assertIn(node.id, BUILTINS)
+                    self.assertIsInstance(node.ctx, ast.Load)
+                if isinstance(node, ast.Call) and isinstance(node.func, ast.Attribute):
+                    self.assertIn(node.func.attr, METHODS | own)
+                if isinstance(node, ast.Call) and isinstance(node.func, ast.Name) and node.func.id in BUILTINS:
+                    self.assertEqual([word.arg for word in node.keywords if word.arg not in ("key", "reverse", "default",
+                                                                                            "start")], [])
+
+    def test_names(self):
+        for _, tree in self.each():
+            taken = set(imported_in(tree)) | {node.name for node in tree.body if isinstance(node, ast.ClassDef)}
+            self.assertEqual(taken & defined_in(tree) & set(imported_in(tree)), set())
+            for function in functions_in(tree):
+                names = bound_in(function)
+                self.assertEqual(names & (taken | set(dir(builtins)) | UNUSED), set(), function.name)
+                self.assertEqual([name for name in names if name.startswith("__")], [])
+            for name in defined_in(tree):
+                self.assertNotIn(name, set(dir(builtins)) | UNUSED)
+
+    def test_sorting_is_by_sorted(self):
+        for path, tree in self.each():
+            called = {node.func.attr for node in ast.walk(tree)
+                      if isinstance(node, ast.Call) and isinstance(node.func, ast.Attribute)}
+            self.assertNotIn("sort", called, path)
+
+
+if __name__ == "__main__":
+    unittest.main()
