@@ -12,6 +12,11 @@ def deed_rows(store, hand):
     raise UnknownHand(hand)
 
 
+def hand_names(store):
+    """The names of all hands, ascending."""
+    return tuple([hand for hand, rows in store[2]])
+
+
 def deeds_of(store, hand):
     """The names of the deeds of a hand; UnknownHand for any value that is none."""
     return tuple([deed for deed, one in deed_rows(store, hand)])

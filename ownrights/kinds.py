@@ -1,4 +1,4 @@
-"""Of what kind any value is: integers, numbers, names, sums and sets of sums."""
+"""Of what kind any value is: integers, numbers, names, sums, sets of sums, rights."""
 
 LETTERS = "abcdefghijklmnopqrstuvwxyz"
 LONGEST_NAME = 8
@@ -28,7 +28,7 @@ def is_integers(thing):
 
 def is_sum(thing, many):
     """Whether any value is a tuple of many integers."""
-    return is_integers(thing) and len(thing) == many
+    return is_tuple(thing, many) and is_integers(thing)
 
 
 def is_ascending(things):
@@ -39,3 +39,18 @@ def is_ascending(things):
 def is_sums(thing, many):
     """Whether any value is a set of sums of many integers: ascending, without duplicates, possibly empty."""
     return isinstance(thing, tuple) and all([is_sum(one, many) for one in thing]) and is_ascending(thing)
+
+
+def is_right(thing, many):
+    """Whether any value is a nonempty set of sums of many integers."""
+    return is_sums(thing, many) and thing != ()
+
+
+def is_tuple(thing, many):
+    """Whether any value is a tuple of many elements, whatever they are."""
+    return isinstance(thing, tuple) and len(thing) == many
+
+
+def is_pair(thing):
+    """Whether any value is a tuple of two elements."""
+    return is_tuple(thing, 2)

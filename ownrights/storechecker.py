@@ -2,7 +2,7 @@
 
 from ownrights.conditions import RULE_WORDS, first_wrong, item_names
 from ownrights.errors import InvalidPaper
-from ownrights.kinds import is_integer, is_integers, is_name
+from ownrights.kinds import is_integer, is_integers, is_name, is_pair, is_tuple
 
 
 def is_tuple_of(thing, is_one):
@@ -12,26 +12,22 @@ def is_tuple_of(thing, is_one):
 
 def _is_item(thing):
     """Whether any value has the shape of an item."""
-    if not isinstance(thing, tuple) or len(thing) != 3:
-        return False
-    return is_name(thing[0]) and is_integer(thing[1]) and is_integer(thing[2])
+    return is_tuple(thing, 3) and is_name(thing[0]) and is_integer(thing[1]) and is_integer(thing[2])
 
 
 def _is_deed(thing):
     """Whether any value has the shape of a deed."""
-    return isinstance(thing, tuple) and len(thing) == 2 and is_name(thing[0]) and is_integers(thing[1])
+    return is_pair(thing) and is_name(thing[0]) and is_integers(thing[1])
 
 
 def _is_hand(thing):
     """Whether any value has the shape of a hand."""
-    if not isinstance(thing, tuple) or len(thing) != 2:
-        return False
-    return is_name(thing[0]) and is_tuple_of(thing[1], _is_deed)
+    return is_pair(thing) and is_name(thing[0]) and is_tuple_of(thing[1], _is_deed)
 
 
 def _has_shape(thing):
     """Whether any value has the shape of a store; the rules may be any values."""
-    if not isinstance(thing, tuple) or len(thing) != 3:
+    if not is_tuple(thing, 3):
         return False
     return is_tuple_of(thing[0], _is_item) and isinstance(thing[1], tuple) and is_tuple_of(thing[2], _is_hand)
 

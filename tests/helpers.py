@@ -48,15 +48,19 @@ def same(one, other):
 class StrictTest(unittest.TestCase):
     """Assertions that look at kinds, too."""
 
+    # Messages are made only if something is wrong: some values are too deep to be shown.
+
     def assert_same(self, found, due, told=None):
-        self.assertTrue(same(found, due), f"{found!r} instead of {due!r} {told if told is not None else ''}")
+        if not same(found, due):
+            self.fail(f"{found!r} instead of {due!r} {told if told is not None else ''}")
 
     def assert_fails(self, due, call, *values, **named):
         """Make sure that the call raises exactly the due error: its class and its fields."""
         try:
             found = call(*values, **named)
         except Exception as error:
-            self.assertIs(type(error), type(due), f"{error!r} for {values!r} {named!r}")
+            if type(error) is not type(due):
+                self.fail(f"{error!r} for {values!r} {named!r}")
             self.assertEqual(sorted(vars(error)), sorted(vars(due)))
             for name in vars(due):
                 self.assert_same(getattr(error, name), getattr(due, name), (name, values, named))

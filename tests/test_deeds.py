@@ -2,7 +2,7 @@
 
 import unittest
 
-from ownrights.deeds import all_keys, deeds_of, sum_of
+from ownrights.deeds import all_keys, deeds_of, hand_names, sum_of
 from ownrights.errors import UnknownDeed, UnknownHand
 from ownrights.sums import Sums
 from tests.helpers import ANYTHING, SHOP, TILL, StrictTest
@@ -27,6 +27,9 @@ class DeedsTest(StrictTest):
         self.assert_same(all_keys(TILL), (("ann", "put"), ("ann", "take"), ("bob", "take")))
         self.assert_same(all_keys(store=SHOP), (("ann", "bake"), ("ann", "buy"), ("eve", "rob")))
         self.assert_same(all_keys((TILL[0], (), (("ann", ()),))), ())
+
+    def test_hand_names(self):
+        self.assert_same([hand_names(TILL), hand_names(SHOP)], [("ann", "bob"), ("ann", "bob", "eve")])
 
     def test_unknown_hands(self):
         for value in ANYTHING + ["put", "take", "anna", "an", "eve", ("ann", "put"), Sums(((0,),))]:

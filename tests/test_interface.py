@@ -5,14 +5,50 @@ import inspect
 import unittest
 
 FUNCTIONS = {
+    "apart": {
+        "comes_to": "(store, state, hand, keys)", "whole": "(store, state, runs)",
+        "may_go_apart": "(store, state, keys)", "states_apart": "(store, keys)", "fewest_asked_at": "(store, state)",
+        "shortest_harm": "(store, state, keys)",
+    },
+    "askedchecker": {"lets_asked": "(store, thing)"},
+    "askedpapers": {"asked_paper": "(store)"},
+    "asking": {
+        "least_groups": "(store, start, family, sums, key)",
+        "group_rights": "(store, start, family, sums, group, *, key=None)",
+    },
+    "askpapers": {"groups_paper": "(store, start, family, sums, key)"},
     "adding": {"added": "(one, *others)", "zero_sum": "(many)"},
     "balls": {"ball": "(store, hand, n)", "sure_number": "(store, right, done, hand, most)"},
+    "clashing": {
+        "clash_of": "(store, one, other)", "clashes": "(store)", "free_sets": "(store)", "fewest_asked": "(store)",
+    },
     "conditions": {
         "is_count": "(thing)", "is_condition": "(thing)", "parts_of": "(expression)", "lets_rule": "(items, thing)",
     },
     "deeds": {"deeds_of": "(store, hand)", "sum_of": "(store, key)", "all_keys": "(store)"},
     "eventreadings": {"read_event": "(text)", "read_log": "(lines)"},
     "eventtexts": {"event_line": "(event)", "log_lines": "(log)"},
+    "exchangechecker": {"lets_exchange": "(store, old, new, thing)"},
+    "exchangepapers": {"exchange_paper": "(store, old, new)"},
+    "exchanges": {
+        "surroundings": "(store, old)", "worth": "(store, old)", "may_exchange": "(store, old, new)",
+        "grown_exchange": "(store, old, new, *order)",
+    },
+    "fairness": {
+        "sure_tuples": "(store, start, most)", "greatest_tuples": "(store, start, most)", "fairest": "(store, start, most)",
+    },
+    "families": {
+        "is_safe": "(store, start, family)", "whole_states": "(store, start, family)",
+        "rest_of": "(store, start, family, hand)", "is_greatest": "(store, start, family)",
+        "grown": "(store, start, family, *hands)",
+    },
+    "familychecker": {"lets_family": "(store, start, family, thing)"},
+    "familypapers": {"family_paper": "(store, start, family)"},
+    "giftpapers": {"gift_paper": "(store, old, new, heir_old, heir_new)"},
+    "goods": {
+        "is_good": "(store, thing)", "good_states": "(store)", "led": "(store, state, *keys)",
+        "moves": "(store, state, hand)",
+    },
     "kinds": {
         "is_integer": "(thing)", "is_number": "(thing)", "is_name": "(thing)", "is_sum": "(thing, many)",
         "is_sums": "(thing, many)",

@@ -2,7 +2,7 @@
 
 import unittest
 
-from ownrights.kinds import is_integer, is_name, is_number, is_sum, is_sums
+from ownrights.kinds import is_integer, is_name, is_number, is_pair, is_right, is_sum, is_sums, is_tuple
 from tests.helpers import ANYTHING, StrictTest
 
 BIG = 10 ** 60 - 1
@@ -38,6 +38,13 @@ class KindsTest(StrictTest):
               ((True,),), ((0,), (True,)), ((0,), None), "", ((-1,), (-2,)), ((0,), (2,), (1,))]
         self.check(is_sums, yes, no, 1)
         self.check(is_sums, [(), ((0, 5), (1, -5)), ((0, 1), (0, 2))], [((0, 2), (0, 1)), ((0, 1), (1,)), ((0,),)], 2)
+
+    def test_is_right(self):
+        self.check(is_right, [((0,),), ((-1,), (0,), (5,))], [(), ((0, 0),), ((1,), (0,)), [(0,)], ((True,),), None], 1)
+
+    def test_tuples(self):
+        self.check(is_pair, [(1, 2), (None, ())], [(), (1,), (1, 2, 3), [1, 2], "ab", None, 2])
+        self.check(is_tuple, [(1, 2, 3)], [(), (1, 2), [1, 2, 3], "abc", None, 3], 3)
 
     def test_any_value(self):
         for value in ANYTHING:

@@ -149,6 +149,47 @@ class LanguageTest(unittest.TestCase):
             for name in defined_in(tree):
                 self.assertNotIn(name, set(dir(builtins)) | UNUSED)
 
+    def test_stars_in_calls_stand_before_names(self):
+        for _, tree in self.each():
+            for node in ast.walk(tree):
+                if isinstance(node, ast.Call):
+                    stars = [argument.value for argument in node.args if isinstance(argument, ast.Starred)]
+                    self.assertEqual([star for star in stars if not isinstance(star, ast.Name)], [])
+
+    def test_generators_are_iterated_at_once(self):
+        names = {}
+        for _, tree in self.each():
+            for function in functions_in(tree):
+                names[function.name] = names.get(function.name, 0) + 1
+        generators = {function.name for path in FILES for function in functions_in(tree_of(path))
+                      if any(isinstance(node, (ast.Yield, ast.YieldFrom)) for node in ast.walk(function))}
+        self.assertEqual(generators, {"good_states"})
+        self.assertEqual({names[name] for name in generators}, {1})
+        for _, tree in self.each():
+            held = [node.iter for node in ast.walk(tree) if isinstance(node, (ast.For, ast.comprehension))]
+            held += [node.args[0] for node in ast.walk(tree) if isinstance(node, ast.Call) and node.args and
+                     isinstance(node.func, ast.Name) and node.func.id in ("list", "tuple", "sorted")]
+            for node in ast.walk(tree):
+                if isinstance(node, ast.Call) and isinstance(node.func, ast.Name) and node.func.id in generators:
+                    self.assertTrue(any(node is value for value in held))
+                    self.assertEqual([value for value in node.args if not isinstance(value, ast.Name)], [])
+            calls = [node.func for node in ast.walk(tree) if isinstance(node, ast.Call)]
+            for node in ast.walk(tree):
+                if isinstance(node, ast.Name) and node.id in generators:
+                    self.assertTrue(any(node is value for value in calls))
+
+    def test_stored_sets_stay_where_they_are(self):
+        for _, tree in self.each():
+            for function in functions_in(tree):
+                stored = [node.targets[0].id for node in ast.walk(function) if isinstance(node, ast.Assign) and
+                          isinstance(node.value, ast.Call) and isinstance(node.value.func, ast.Name) and
+                          node.value.func.id == "set"]
+                self.assertEqual(len(stored), len(set(stored)))
+                tested = [value for node in ast.walk(function) if isinstance(node, ast.Compare) for value in node.comparators]
+                for node in ast.walk(function):
+                    if isinstance(node, ast.Name) and node.id in stored and isinstance(node.ctx, ast.Load):
+                        self.assertTrue(any(node is value for value in tested), (function.name, node.id))
+
     def test_sorting_is_by_sorted(self):
         for path, tree in self.each():
             called = {node.func.attr for node in ast.walk(tree)
