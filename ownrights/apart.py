@@ -1,15 +1,9 @@
 """What hands can do from a state at which they meet, each looking at its own copy only."""
 
 from ownrights.adding import added, zero_sum
-from ownrights.deeds import all_keys, deed_rows, hand_names, sum_of
+from ownrights.deeds import all_keys, check_keys, deed_rows, hand_names, sum_of
 from ownrights.goods import good_table
 from ownrights.rests import all_added
-
-
-def _check_keys(store, keys):
-    """Raise UnknownDeed for the first of some values that is the key of no deed."""
-    for key in keys:
-        sum_of(store, key)
 
 
 def _runs_of(store, good, state, hand, keys):
@@ -33,7 +27,7 @@ def _runs_of(store, good, state, hand, keys):
 def comes_to(store, state, hand, keys):
     """The set of all sums to which a hand can come; UnknownHand, then UnknownDeed for the first value that is none."""
     deed_rows(store, hand)
-    _check_keys(store, keys)
+    check_keys(store, keys)
     return tuple(sorted(_runs_of(store, good_table(store), state, hand, keys)))
 
 
@@ -56,13 +50,13 @@ def _go_apart(store, good, state, keys):
 
 def may_go_apart(store, state, keys):
     """Whether the whole is good, whatever the hands do; UnknownDeed for the first value that is no key."""
-    _check_keys(store, keys)
+    check_keys(store, keys)
     return _go_apart(store, good_table(store), state, keys)
 
 
 def states_apart(store, keys):
     """The set of all good states from which the hands may go apart; UnknownDeed for the first value that is no key."""
-    _check_keys(store, keys)
+    check_keys(store, keys)
     good = good_table(store)
     return tuple([state for state in good if _go_apart(store, good, state, keys)])
 
@@ -97,7 +91,7 @@ def shortest_harm(store, state, keys):
 
     UnknownDeed for the first value that is no key.
     """
-    _check_keys(store, keys)
+    check_keys(store, keys)
     good = good_table(store)
     found = {zero_sum(len(state)): (0, ())}
     for hand in hand_names(store):

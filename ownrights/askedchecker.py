@@ -4,8 +4,7 @@ from ownrights.clashing import clash_in, clashes
 from ownrights.deeds import all_keys, sum_of
 from ownrights.errors import InvalidPaper
 from ownrights.goods import good_table
-from ownrights.kinds import is_integers, is_pair, is_tuple
-from ownrights.storechecker import is_tuple_of
+from ownrights.kinds import is_integers, is_pair, is_tuple, is_tuple_of
 
 TREE_PARTS = 5
 

@@ -43,7 +43,7 @@ def suffices(store, start, family, sums, key, group):
     return value is not None and behind in value
 
 
-def _contains_other(groups, group):
+def contains_other(groups, group):
     """Whether a group contains one of some groups that is not the same."""
     return any([other != group and has_all(group, other) for other in groups])
 
@@ -52,7 +52,7 @@ def least_groups(store, start, family, sums, key):
     """The set of all groups that suffice, while no part of them does; UnknownDeed for any value that is no key."""
     sum_of(store, key)
     groups = [group for group in groups_with(store, key[0]) if suffices(store, start, family, sums, key, group)]
-    return tuple([group for group in groups if not _contains_other(groups, group)])
+    return tuple([group for group in groups if not contains_other(groups, group)])
 
 
 def _rights_at(store, sums, key):

@@ -17,6 +17,12 @@ def hand_names(store):
     return tuple([hand for hand, rows in store[2]])
 
 
+def place_of(store, hand):
+    """Which one a hand is, counted from 0; UnknownHand for any value that is none."""
+    deed_rows(store, hand)
+    return hand_names(store).index(hand)
+
+
 def deeds_of(store, hand):
     """The names of the deeds of a hand; UnknownHand for any value that is none."""
     return tuple([deed for deed, one in deed_rows(store, hand)])
@@ -30,6 +36,12 @@ def sum_of(store, key):
                 # Results are new tuples: the store's own one is not handed out.
                 return added(one)
     raise UnknownDeed(key)
+
+
+def check_keys(store, keys):
+    """Raise UnknownDeed for the first of some values that is the key of no deed."""
+    for key in keys:
+        sum_of(store, key)
 
 
 def all_keys(store):

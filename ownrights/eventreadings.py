@@ -2,7 +2,7 @@
 
 from ownrights.errors import InvalidText
 from ownrights.eventtexts import EVENT_FIELDS
-from ownrights.kinds import is_ascending, is_name
+from ownrights.kinds import is_names
 from ownrights.storereadings import Words, name_in, number_in, store_read, sum_in, sums_in
 
 FEWEST_LINES = 2
@@ -11,7 +11,7 @@ FEWEST_LINES = 2
 def names_in(word):
     """The nonempty set of names that a word writes, or None."""
     names = tuple(word.split(","))
-    return names if all([is_name(name) for name in names]) and is_ascending(names) else None
+    return names if is_names(names) else None
 
 
 def right_in(word):
@@ -29,19 +29,19 @@ def _lines_in(word):
 def _take_field(words, field, values):
     """What the next words write in a field of an event, behind the values before it."""
     if field == "number":
-        return words.take(number_in)
+        return words.pick(number_in)
     if field == "hands":
-        return words.take(names_in)
+        return words.pick(names_in)
     if field == "right":
-        return words.take(right_in)
+        return words.pick(right_in)
     if field == "rights":
-        return tuple([words.take(right_in) for _ in values[-1]])
-    return words.take(name_in)
+        return tuple([words.pick(right_in) for _ in values[-1]])
+    return words.pick(name_in)
 
 
 def _take_event(words):
     """The event that all words of a line write."""
-    values = [words.take_one_of(list(EVENT_FIELDS))]
+    values = [words.pick_one_of(list(EVENT_FIELDS))]
     for field in EVENT_FIELDS[values[0]]:
         values.append(_take_field(words, field, values))
     words.end()
@@ -62,18 +62,18 @@ def _words_at(lines, at):
 
 def _take_line(words, head, meaning):
     """What the one word behind the first one, head, of a line writes."""
-    words.take_one_of((head,))
-    value = words.take(meaning)
+    words.pick_one_of((head,))
+    value = words.pick(meaning)
     words.end()
     return value
 
 
 def _take_family(words):
     """The tuple of rights that a line writes behind its first word."""
-    words.take_one_of(("family",))
-    rights = [words.take(right_in)]
+    words.pick_one_of(("family",))
+    rights = [words.pick(right_in)]
     while words.left() > 0:
-        rights.append(words.take(right_in))
+        rights.append(words.pick(right_in))
     return tuple(rights)
 
 

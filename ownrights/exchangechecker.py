@@ -5,9 +5,8 @@ from ownrights.errors import InvalidPaper
 from ownrights.exchangepapers import candidates_of
 from ownrights.exchanges import check_exchange
 from ownrights.goods import good_states
-from ownrights.kinds import is_pair, is_sum, is_tuple
+from ownrights.kinds import is_pair, is_sum, is_tuple, is_tuple_of
 from ownrights.rests import all_added, all_in, is_choice, sums_of_rights
-from ownrights.storechecker import is_tuple_of
 
 
 def _has_shape(thing):

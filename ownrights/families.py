@@ -1,6 +1,6 @@
 """Families of rights: whether they are safe, and how they can grow."""
 
-from ownrights.deeds import deed_rows, hand_names
+from ownrights.deeds import place_of
 from ownrights.errors import InvalidFamily
 from ownrights.goods import good_states, good_sums
 from ownrights.kinds import is_right, is_tuple
@@ -30,9 +30,9 @@ def is_safe(store, start, family):
 
 def rest_of(store, start, family, hand):
     """The rest of a hand beside the rights of the others; UnknownHand for any value that is none."""
-    deed_rows(store, hand)
+    at = place_of(store, hand)
     check_family(store, family)
-    return rest_beside(family, hand_names(store).index(hand), good_sums(store, start))
+    return rest_beside(family, at, good_sums(store, start))
 
 
 def is_greatest(store, start, family):
@@ -48,9 +48,7 @@ def grown(store, start, family, *hands):
 
     UnknownHand for the first of hands that is none; InvalidFamily, also if the family is not safe.
     """
-    for hand in hands:
-        deed_rows(store, hand)
+    places = [place_of(store, hand) for hand in hands]
     if not is_safe(store, start, family):
         raise InvalidFamily("unsafe", -1)
-    names = hand_names(store)
-    return grown_rights(family, good_sums(store, start), [names.index(hand) for hand in hands])
+    return grown_rights(family, good_sums(store, start), places)

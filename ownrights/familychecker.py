@@ -5,9 +5,8 @@ from ownrights.errors import InvalidPaper
 from ownrights.families import is_safe
 from ownrights.familypapers import candidates_of
 from ownrights.goods import good_sums
-from ownrights.kinds import is_number, is_pair, is_sum, is_tuple
+from ownrights.kinds import is_number, is_pair, is_sum, is_tuple, is_tuple_of
 from ownrights.rests import all_in, is_choice, sums_of_rights, with_right
-from ownrights.storechecker import is_tuple_of
 
 
 def _is_row(thing):

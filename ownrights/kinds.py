@@ -1,4 +1,4 @@
-"""Of what kind any value is: integers, numbers, names, sums, sets of sums, rights."""
+"""Of what kind any value is: integers, numbers, names, sums, sets of sums, rights, tuples."""
 
 LETTERS = "abcdefghijklmnopqrstuvwxyz"
 LONGEST_NAME = 8
@@ -54,3 +54,23 @@ def is_tuple(thing, many):
 def is_pair(thing):
     """Whether any value is a tuple of two elements."""
     return is_tuple(thing, 2)
+
+
+def is_tuple_of(thing, is_one):
+    """Whether any value is a tuple, each element of which passes is_one."""
+    return isinstance(thing, tuple) and all([is_one(one) for one in thing])
+
+
+def is_integer_rows(thing):
+    """Whether any value is a tuple of tuples of integers, however many."""
+    return is_tuple_of(thing, is_integers)
+
+
+def is_long_right(thing):
+    """Whether any value is a nonempty set of nonempty tuples of integers of equal length."""
+    return is_integer_rows(thing) and thing != () and thing[0] != () and is_sums(thing, len(thing[0]))
+
+
+def is_names(thing):
+    """Whether any value is a nonempty set of names."""
+    return is_tuple_of(thing, is_name) and thing != () and is_ascending(thing)

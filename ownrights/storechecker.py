@@ -2,12 +2,7 @@
 
 from ownrights.conditions import RULE_WORDS, first_wrong, item_names
 from ownrights.errors import InvalidPaper
-from ownrights.kinds import is_integer, is_integers, is_name, is_pair, is_tuple
-
-
-def is_tuple_of(thing, is_one):
-    """Whether any value is a tuple, each element of which passes is_one."""
-    return isinstance(thing, tuple) and all([is_one(one) for one in thing])
+from ownrights.kinds import is_integer, is_integers, is_name, is_pair, is_tuple, is_tuple_of
 
 
 def _is_item(thing):

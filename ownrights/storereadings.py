@@ -76,7 +76,7 @@ class Words:
         """Raise InvalidText for the next word, be it not possible or missing."""
         raise InvalidText(self.line, self.field + self.taken)
 
-    def take(self, meaning):
+    def pick(self, meaning):
         """The meaning of the next word: a function gives it for the word, or None if the word is not possible."""
         if self.left() == 0:
             self.refuse()
@@ -86,9 +86,9 @@ class Words:
         self.taken += 1
         return value
 
-    def take_one_of(self, choices):
+    def pick_one_of(self, choices):
         """The next word, which has to be one of the choices."""
-        return self.take(lambda word: word if word in choices else None)
+        return self.pick(lambda word: word if word in choices else None)
 
     def end(self):
         """Make sure that there are no further words."""
@@ -100,11 +100,11 @@ def _take_part(words, choices, depth):
     """The next part of an expression, of the kind or the kinds with these words, that stands within depth others."""
     if depth > DEEPEST:
         words.refuse()
-    head = words.take(lambda word: _head_in(word, choices))
+    head = words.pick(lambda word: _head_in(word, choices))
     if is_integer(head):
         return head
     if head == "item":
-        return (head, words.take(name_in))
+        return (head, words.pick(name_in))
     part = [head]
     for _ in range(LENGTHS[head] - 1):
         part.append(_take_part(words, inner_words(head), depth + 1))
@@ -129,7 +129,7 @@ def expression_read(text, *, line=0, field=0):
 def sum_read(text, *, line=0, field=0):
     """The nonempty tuple of integers that any string writes."""
     words = Words(text, line, field)
-    one = words.take(sum_in)
+    one = words.pick(sum_in)
     words.end()
     return one
 
@@ -137,7 +137,7 @@ def sum_read(text, *, line=0, field=0):
 def sums_read(text, *, line=0, field=0):
     """The set of sums of equal length that any string writes."""
     words = Words(text, line, field)
-    sums = words.take(sums_in)
+    sums = words.pick(sums_in)
     words.end()
     return sums
 
@@ -145,13 +145,13 @@ def sums_read(text, *, line=0, field=0):
 def _take_row(head, words, items, rules, hands):
     """Take the words of a line of a store behind its first one, and put what they write where it belongs."""
     if head == "item":
-        items.append((words.take(name_in), words.take(integer_in), words.take(integer_in)))
+        items.append((words.pick(name_in), words.pick(integer_in), words.pick(integer_in)))
     elif head == "rule":
         rules.append(_take_part(words, RULE_WORDS, 0))
     elif head == "hand":
-        hands.append((words.take(name_in), []))
+        hands.append((words.pick(name_in), []))
     else:
-        hands[-1][1].append((words.take(name_in), words.take(sum_in)))
+        hands[-1][1].append((words.pick(name_in), words.pick(sum_in)))
     words.end()
 
 
@@ -164,7 +164,7 @@ def store_read(text, *, line=0):
     rows = text.split("\n")
     for at, row in enumerate(rows):
         words = Words(row, line + at, 0)
-        head = words.take_one_of(HEADS_BEHIND[head])
+        head = words.pick_one_of(HEADS_BEHIND[head])
         _take_row(head, words, items, rules, hands)
     if head not in LAST_HEADS:
         raise InvalidText(line + len(rows), 0)

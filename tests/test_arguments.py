@@ -4,21 +4,44 @@ import copy
 import unittest
 
 from ownrights.apart import may_go_apart, shortest_harm, whole
+from ownrights.askchecker import lets_groups
 from ownrights.askedchecker import lets_asked
 from ownrights.asking import group_rights, least_groups
 from ownrights.clashing import clash_of
 from ownrights.conditions import is_condition, is_count, lets_rule
 from ownrights.deeds import deeds_of, sum_of
 from ownrights.errors import RightError
+from ownrights.eventtexts import is_event
 from ownrights.exchangechecker import lets_exchange
 from ownrights.exchanges import grown_exchange, may_exchange, worth
 from ownrights.families import grown, is_safe, rest_of
 from ownrights.familychecker import lets_family
+from ownrights.giftchecker import lets_gift
+from ownrights.giving import reach
 from ownrights.goods import is_good, led, moves
 from ownrights.kinds import is_integer, is_name, is_number, is_sum, is_sums
+from ownrights.listchecker import lets_meetings
+from ownrights.listpapers import meetings_paper
+from ownrights.lists import can_do, fewest_meetings, passed
+from ownrights.numberchecker import lets_numbers
+from ownrights.replaying import is_log
+from ownrights.runchecker import lets_runs
+from ownrights.runpapers import run_paper
+from ownrights.services import Service
 from ownrights.storechecker import lets_store
+from ownrights.storeclasses import Store
 from ownrights.sums import Sums
+from ownrights.terms import Count, Rule
 from tests.helpers import ANYTHING, BOTH, SHOP, START, TILL, StrictTest
+
+PUT, BOB = ("ann", "put"), ("bob", "take")
+
+
+def follow(event):
+    """What a service answers, and its log then."""
+    service = Service(TILL, START, BOTH)
+    return service.go(event), service.log()
+
 
 CALLS = [
     is_integer, is_number, is_name, is_count, is_condition, lets_store, Sums, lambda thing: is_sum(thing, 1),
@@ -39,6 +62,24 @@ CALLS = [
     lambda thing: least_groups(TILL, START, BOTH, ((0,), (0,)), thing),
     lambda thing: group_rights(TILL, START, BOTH, ((0,), (0,)), (thing,)),
     lambda thing: thing in Sums(((0,),)), lambda thing: Sums(()).shifted(thing),
+    lambda thing: reach(TILL, ((0,), (1,)), (0,), thing), lambda thing: passed(TILL, (PUT, thing)),
+    lambda thing: can_do(TILL, START, (thing,)), lambda thing: fewest_meetings(TILL, START, (thing, PUT)),
+    lambda thing: meetings_paper(TILL, START, (thing,)), lambda thing: lets_meetings(TILL, START, (PUT,), thing),
+    lambda thing: lets_meetings(TILL, START, (PUT,), ("cuts", thing, ())), lambda thing: lets_meetings(TILL, START, (thing,), ()),
+    lambda thing: lets_numbers(TILL, START, (1, 1), thing), lambda thing: lets_numbers(TILL, START, (1, 1), ("sure", thing)),
+    lambda thing: lets_numbers(TILL, START, (1, 1), ("bad", (thing, ()))), lambda thing: lets_runs(TILL, START, (PUT,), thing),
+    lambda thing: lets_runs(TILL, START, (PUT,), ("good", thing)), lambda thing: run_paper(TILL, START, (BOB, thing)),
+    lambda thing: lets_groups(TILL, START, BOTH, ((0,), (0,)), PUT, thing),
+    lambda thing: lets_groups(TILL, START, BOTH, ((1,), (0,)), PUT, ((("ann", "bob"),), thing)),
+    lambda thing: lets_groups(TILL, START, BOTH, ((0,), (0,)), thing, ((), ())),
+    lambda thing: lets_gift(TILL, BOTH[0], BOTH[0], BOTH[1], BOTH[1], thing),
+    lambda thing: lets_gift(TILL, BOTH[0], BOTH[0], BOTH[1], BOTH[1], ((0,), (0,), thing)), is_event, is_log, follow,
+    lambda thing: is_log((("service", TILL, START, BOTH), thing)), lambda thing: is_log((("service", TILL, START, thing),)),
+    lambda thing: follow(("exchange", ("ann", "bob"), thing)), lambda thing: follow(("give", "ann", "bob", BOTH[0], thing)),
+    lambda thing: follow(("meet", thing)), lambda thing: Count(thing).form, lambda thing: Rule(("=", 1, thing)).form,
+    lambda thing: Count.item(thing).form, lambda thing: Store(TILL[0], TILL[2], thing).form,
+    lambda thing: Store(TILL[0], thing).form, lambda thing: Service(TILL, thing, BOTH).log(),
+    lambda thing: Service(TILL, START, thing).log(), lambda thing: thing in Service(TILL, START, BOTH),
 ]
 
 
