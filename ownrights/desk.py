@@ -138,6 +138,7 @@ class Desk:
 
     def __init__(self):
         self._service = None
+        # How many calls of say were begun, and how many are over, also by an error.
         self._started = 0
         self._finished = 0
 

@@ -34,6 +34,7 @@ class Service:
         self._now = first_moment(family)
         # The pairs of each event and the moment before it.
         self._past = []
+        # How many operations were begun, and how many are over, also by an error.
         self._started = 0
         self._finished = 0
 

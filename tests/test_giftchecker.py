@@ -77,7 +77,7 @@ class LetsGiftTest(StrictTest):
                 self.assert_fails(InvalidPaper("shape", -1), lets_gift, TILL, *RIGHTS, (*[(9,)] * at, value, *[(9,)] * (2 - at)))
 
     def test_sums_of_other_lengths(self):
-        for value in ((), (1, 0), (0, 1), (1,) * 4999):
+        for value in ((), (1, 0), (0, 1), (2, 0), (3, 0), (1,) * 4999):
             self.assert_fails(InvalidPaper("given", -1), lets_gift, TILL, *RIGHTS, (value, PAPER[1], PAPER[2]))
             self.assert_fails(InvalidPaper("got", -1), lets_gift, TILL, *RIGHTS, (PAPER[0], value, PAPER[2]))
             self.assert_fails(InvalidPaper("old", -1), lets_gift, TILL, *RIGHTS, (PAPER[0], PAPER[1], value))
