@@ -14,7 +14,7 @@ def _runs_of(store, good, state, hand, keys):
     latest = [zero]
     while latest:
         further = []
-        for done in latest:
+        for done in list(latest):
             for deed, one in steps:
                 there = added(done, one)
                 if there not in runs and added(state, there) in good:
@@ -78,7 +78,7 @@ def fewest_asked_at(store, state):
 def _joined(found, runs):
     """A dict like found with the runs of one hand more: to each sum (number of deeds, runs), as few deeds as can be."""
     further = {}
-    for total, (many, told) in found.items():
+    for total, (many, told) in list(found.items()):
         for done, run in runs.items():
             there = added(total, done)
             if there not in further or many + len(run) < further[there][0]:

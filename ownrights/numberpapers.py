@@ -12,7 +12,7 @@ def _lists(store, hand, number):
     found = {zero_sum(len(store[0])): ()}
     for _ in range(number):
         further = {one: found[one] for one in found}
-        for one, deeds in found.items():
+        for one, deeds in list(found.items()):
             for deed, step in deed_rows(store, hand):
                 further.setdefault(added(one, step), (*deeds, deed))
         if len(further) == len(found):

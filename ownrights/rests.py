@@ -79,7 +79,7 @@ def _choices(rights):
     found = {zero_sum(len(rights[0][0])): ()}
     for right in rights:
         further = {}
-        for total, choice in found.items():
+        for total, choice in list(found.items()):
             for one in right:
                 further.setdefault(added(total, one), (*choice, one))
         found = further

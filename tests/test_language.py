@@ -26,6 +26,9 @@ STATEMENTS = (
     ast.Assert, ast.Delete, ast.Nonlocal, ast.With, ast.Expr, ast.Try, ast.FunctionDef, ast.ClassDef, ast.ImportFrom,
     ast.Match,
 )
+CHANGING = {"append", "clear", "extend", "insert", "pop", "remove", "reverse", "setdefault", "update", "sort", "add", "discard"}
+VIEWS = {"items", "keys", "values"}
+WALKERS = {"enumerate", "zip", "reversed", "iter"}
 UNUSED = {"register", "mro", "elements", "open", "input", "law", "version_info", "with_traceback", "add_note"}
 BARRED = re.compile(
     r"\b(type|typing|typing_extensions|enum|Enum|IntEnum|StrEnum|Flag|IntFlag|Generic|Protocol|ABC|ABCMeta|namedtuple|"
@@ -55,6 +58,65 @@ def bound_in(function):
     names = {argument.arg for argument in ast.walk(function.args) if isinstance(argument, ast.arg)}
     return names | {node.id for node in ast.walk(function) if isinstance(node, ast.Name) and
                     isinstance(node.ctx, ast.Store)}
+
+
+def held_by(value):
+    """The names and attributes whose very list or dict an expression gives, also as a view, a zip or a choice."""
+    if isinstance(value, (ast.Name, ast.Attribute)):
+        return {ast.unparse(value)}
+    if isinstance(value, ast.Call) and isinstance(value.func, ast.Attribute) and value.func.attr in VIEWS:
+        return held_by(value.func.value)
+    inner = []
+    if isinstance(value, ast.IfExp):
+        inner = [value.body, value.orelse]
+    elif isinstance(value, ast.BoolOp):
+        inner = value.values
+    elif isinstance(value, ast.NamedExpr):
+        inner = [value.target, value.value]
+    elif isinstance(value, ast.Call) and isinstance(value.func, ast.Name) and value.func.id in WALKERS:
+        inner = value.args
+    return {name for one in inner for name in held_by(one)}
+
+
+def changed_in(nodes):
+    """The names and attributes whose list or dict is changed in some nodes."""
+    found = set()
+    for node in [inner for node in nodes for inner in ast.walk(node)]:
+        if isinstance(node, ast.Call) and isinstance(node.func, ast.Attribute) and node.func.attr in CHANGING:
+            found |= held_by(node.func.value)
+        if isinstance(node, ast.Subscript) and isinstance(node.ctx, (ast.Store, ast.Del)):
+            found |= held_by(node.value)
+        if isinstance(node, ast.AugAssign):
+            found |= held_by(node.target)
+    return found
+
+
+def given_names(function):
+    """The pairs (target, name) of a function, where an assignment gives the target what the name holds."""
+    pairs = []
+    for node in ast.walk(function):
+        if isinstance(node, ast.NamedExpr):
+            pairs.append((node.target, node.value))
+        for target in node.targets if isinstance(node, ast.Assign) else []:
+            many = isinstance(target, ast.Tuple) and isinstance(node.value, ast.Tuple)
+            pairs += zip(target.elts, node.value.elts) if many else [(target, node.value)]
+    return [(one, other) for target, value in pairs for one in held_by(target) for other in held_by(value)]
+
+
+def walked_and_changed(function):
+    """The names that are changed inside of a loop of a function which walks them, be it by another name that,
+    anywhere in the function, is given them or gives them."""
+    pairs, found = given_names(function), set()
+    for node in ast.walk(function):
+        walked, inside = set(), []
+        if isinstance(node, ast.For):
+            walked, inside = held_by(node.iter), node.body
+        elif isinstance(node, (ast.ListComp, ast.DictComp, ast.SetComp, ast.GeneratorExp)):
+            walked, inside = {name for one in node.generators for name in held_by(one.iter)}, [node]
+        for _ in pairs:
+            walked |= {name for pair in pairs for name in pair if set(pair) & walked}
+        found |= walked & changed_in(inside)
+    return found
 
 
 class LanguageTest(unittest.TestCase):
@@ -215,6 +277,11 @@ class LanguageTest(unittest.TestCase):
         read = {node.attr for path in FILES for node in ast.walk(tree_of(path)) if isinstance(node, ast.Attribute)}
         self.assertEqual(read - set(methods) - set(stored) - METHODS, set())
 
+    def test_what_a_loop_walks_is_not_changed_in_it(self):
+        rows = [(path.name, function.name, sorted(walked_and_changed(function)))
+                for path in FILES for function in functions_in(tree_of(path))]
+        self.assertEqual([row for row in rows if row[2]], [])
+
     def test_double_underscore_methods(self):
         for path, tree in self.each():
             for function in functions_in(tree):
@@ -283,6 +350,44 @@ class LanguageTest(unittest.TestCase):
             called = {node.func.attr for node in ast.walk(tree)
                       if isinstance(node, ast.Call) and isinstance(node.func, ast.Attribute)}
             self.assertNotIn("sort", called, path)
+
+
+# The rows of a function that walks xs, and what of it is changed in the loop.
+WALKS = (
+    ("for x in xs:\n  xs.append(x)", {"xs"}),
+    ("for x in xs:\n  for y in ys:\n    xs[y] = x", {"xs"}),
+    ("for x in xs:\n  del xs[x]\n  return", {"xs"}),
+    ("for x in xs:\n  xs += [x]", {"xs"}),
+    ("for k, x in xs.items():\n  xs.setdefault(x, k)", {"xs"}),
+    ("for k, (x, y) in enumerate(zip(xs, ys)):\n  ys.pop()", {"ys"}),
+    ("for x in xs if k else ys or zs:\n  zs.clear()", {"zs"}),
+    ("for x in self.xs:\n  self.xs.append(x)", {"self.xs"}),
+    ("ys = self.xs\nfor x in ys:\n  self.xs.append(x)", {"self.xs"}),
+    ("self.xs = ys = []\nfor x in ys:\n  ys.append(x)", {"ys"}),
+    ("while xs:\n  ys = []\n  for x in xs:\n    ys.append(x)\n  xs = ys", {"ys"}),
+    ("while xs:\n  ys = {}\n  for x in xs.items():\n    ys[x] = x\n  zs = ys\n  xs = zs", {"ys"}),
+    ("while xs:\n  ys = []\n  for x in xs:\n    ys.append(x)\n  k, xs = 1, ys", {"ys"}),
+    ("while xs:\n  ys = []\n  for x in xs:\n    ys.append(x)\n  xs = ys if k else zs", {"ys"}),
+    ("while (xs := ys):\n  for x in xs:\n    ys.append(x)", {"ys"}),
+    ("zs = [xs.pop() for x in xs]", {"xs"}),
+    ("for x in list(xs):\n  xs.append(x)", set()),
+    ("for k, x in list(xs.items()):\n  xs[x] = k", set()),
+    ("for x in xs:\n  ys.append(x)\nxs.append(1)", set()),
+    ("while xs:\n  xs.pop()", set()),
+    ("while xs:\n  ys = []\n  for x in list(xs):\n    ys.append(x)\n  xs = ys", set()),
+    ("while xs:\n  ys = []\n  for x in xs:\n    ys.append(x)\n  xs = list(ys)", set()),
+    ("while xs:\n  xs = [x + 1 for x in xs]", set()),
+)
+
+
+class WalkTest(unittest.TestCase):
+    """What the test of loops finds, and what it lets pass."""
+
+    def test_rows(self):
+        for rows, due in WALKS:
+            body = rows.replace("\n", "\n  ")
+            function = functions_in(ast.parse(f"def walk(self, xs, ys, zs, k):\n  {body}"))[0]
+            self.assertEqual(walked_and_changed(function), due, rows)
 
 
 if __name__ == "__main__":
